@@ -790,8 +790,8 @@ func TestFormsOfPairs(t *testing.T) {
 // unlike are pairs of many degrees, of whole numbers and fractions.
 func unlike() [][2]fracs {
 	var l [][2]fracs
-	for _, n := range []int{0, 1, 2, 5, 12, 20} {
-		for _, m := range []int{0, 1, 3, 5, 11, 20} {
+	for _, n := range []int{0, 1, 2, 5, 14} {
+		for _, m := range []int{0, 1, 3, 5, 13} {
 			l = append(l, [2]fracs{rough(n, 1, false), rough(m, 2, false)}, [2]fracs{rough(n, 2, n+m < 20), rough(m, 1, true)})
 		}
 	}
